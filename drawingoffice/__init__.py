@@ -1,0 +1,1 @@
+"""Drawingoffice: releasing drawings that are sure for all stores, histories and measures."""

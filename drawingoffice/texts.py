@@ -1,0 +1,16 @@
+"""Texts of characters: what several modules ask of them."""
+
+
+def ascending_signs(text):
+    """The characters of the text in ascending order, each once."""
+    found = {char: True for char in text}
+    return "".join(sorted([str(char) for char in found]))
+
+
+def ending_that_begins(text, word):
+    """The longest ending of the text that is a beginning of the word and shorter than the word."""
+    for size in reversed(range(1, min(len(text), len(word) - 1) + 1)):
+        ending = text[len(text) - size:]
+        if word.startswith(ending):
+            return ending
+    return ""
