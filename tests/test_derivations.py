@@ -69,8 +69,9 @@ class Holds(unittest.TestCase):
 
     def test_indexes_and_line_numbers(self):
         card = turned()
-        for index in (-1, 2, 10 ** 60):
-            self.assertIs(self.holds(card, ("rule", index), *LINES), False)
+        self.assertIs(self.holds(card, *LINES[:4], ("rule", 1), LINES[4]), True)
+        for index in (-1, -2, 2, 10 ** 60):
+            self.assertIs(self.holds(card, *LINES[:4], ("rule", index), LINES[4]), False)
         for wrong in [("free", -1, "t"), ("free", 1, "t"), ("free", 2, "t"), ("free", 10 ** 50, "t")]:
             self.assertIs(self.holds(card, LINES[0], wrong, *LINES[2:]), False)
         for wrong in [("join", 1, 4, "p"), ("join", 4, 3, "p"), ("join", -4, 3, "p"), ("join", 1, -2, "p"),
@@ -184,6 +185,12 @@ class Holds(unittest.TestCase):
         for wrong in [("join", 3, 1, "p"), ("join", 0, 3, "p"), ("join", 3, 3, "p")]:
             self.assertIs(derivation_holds(card, lines + [wrong, ("join", 0, 1, "q")]), False)
         self.assertIs(derivation_holds(card, lines + [("join", 2, 1, "q"), ("join", 0, 1, "q")]), True)
+        card.rule("frame", "p", least=0)
+        card.rule("p", "frame", least=0)
+        lines = lines + [("rule", 3), ("rule", 4)]
+        self.assertIs(derivation_holds(card, lines + [("join", 5, 4, "p"), lines[3]]), True)
+        for wrong in [("join", 3, 4, "p"), ("join", 5, 3, "p"), ("join", 3, 3, "p")]:
+            self.assertIs(derivation_holds(card, lines + [wrong, lines[3]]), False)
         back = card_from([("part", "p"), ("part", "q"), ("rule", "frame", "q", 3, ()), ("rule", "q", "frame", -2, ()),
                           ("rule", "frame", "p", 0, ()), ("rule", "p", "frame", 0, ())])
         lines = [("rule", 1), ("rule", 0), ("join", 0, 1, "q")]

@@ -18,7 +18,7 @@ class Measured(unittest.TestCase):
     def test_names(self):
         for name in ["a", "z", "a1", "z09", "abcdefghijkl", "a" * 12, "frames", "fram", "frame0"]:
             self.assertEqual(measured(name, low=0, high=0).terms[0][0], name)
-        for name in ["", "1a", "A", "aB", "a_b", "a b", " a", "a ", "a" * 13, "frame", "a-b", "a\n", "+a", "a~", "{", "`"]:
+        for name in ["", "1a", "A", "aB", "a_b", "a b", " a", "a ", "a" * 13, "frame", "a-b", "a\n", "+a", "{", "`"]:
             self.assertEqual(raised(measured, name, low=0, high=0), (BadName, {"name": name}))
 
     def test_the_name_is_looked_at_before_the_ends(self):

@@ -71,6 +71,22 @@ class Widest(unittest.TestCase):
         card.rule("frame", "p", least=-1)
         self.assertEqual(widest(card), 0)
 
+    def test_a_rule_that_only_asks_for_more_in_a_wider_card(self):
+        card = Card()
+        m = card.measure("m", low=0, high=3)
+        card.part("p")
+        card.rule("p", "frame", least=5)
+        card.rule("p", "frame", least=m)
+        card.rule("frame", "p", least=-6)
+        self.assertEqual(widest(card), 3)
+        card = Card()
+        m = card.measure("m", low=0, high=3)
+        card.part("p")
+        card.rule("p", "frame", least=m + 10)
+        card.rule("p", "frame", least=m * -1)
+        card.rule("frame", "p", least=m * -3 - 30)
+        self.assertEqual(widest(card), 7)
+
     def test_no_greatest(self):
         for acts in [[], [("part", "p"), ("rule", "p", "frame", 1, ())], [("measure", "m", 0, 5)]]:
             self.assertIsNone(widest(card_from(acts)))
@@ -88,6 +104,7 @@ class Widest(unittest.TestCase):
     def test_held_against_sure(self):
         cards = [random_card(seed, "mmpp", rules=5, slack=9) for seed in range(40)]
         cards += [random_card(seed, "mtpmpp", rules=9, slack=12, times=2) for seed in range(60)]
+        cards += [random_card(seed, "mmp", rules=8, slack=15, times=3) for seed in range(150)]
         found = set()
         for card in small_cards() + cards:
             if not sure(card):

@@ -94,6 +94,22 @@ class Sure(unittest.TestCase):
                 for told in states(card, count):
                     self.assertIs(sure(card, told=told), saved(card, told))
 
+    def test_a_part_that_is_bound_to_a_later_measure_by_a_later_part(self):
+        # The rules say that q is -5 - m and p is q + 5: right for each value of m, but p is set before m is known.
+        for steps, expected in [("pmq", False), ("mpq", True), ("pmrq", False), ("mrpq", True), ("prmq", False)]:
+            card = Card()
+            for name in steps:
+                if name == "m":
+                    card.measure("m", low=0, high=1)
+                else:
+                    card.part(name)
+            m = card.form("m")
+            card.rule("frame", "q", least=m + 5)
+            card.rule("q", "frame", least=m * -1 - 5)
+            card.rule("q", "p", least=-5)
+            card.rule("p", "q", least=5)
+            self.assertIs(sure(card), expected)
+
     def test_the_order_of_the_steps_matters_to_rounds_of_parts(self):
         # A measure between two parts: lines that come twice by a part must not be dropped there.
         for seed in range(150):

@@ -1,0 +1,101 @@
+"""The interface: names, arguments, where they are defined, and what is passed by position and by keyword."""
+
+import importlib
+import inspect
+import unittest
+
+FUNCTIONS = {
+    "forms": {"measured": "name, *, low, high"},
+    "players": {"sure": "card, *, told=()", "winner": "card, *, told=()"},
+    "plays": {"follow": "player, moves", "broken": "card, values", "move_rows": "card", "plays": "card"},
+    "plans": {"saving": "card, *, told=()", "plan": "card"},
+    "derivations": {"derivation": "card", "derivation_holds": "card, lines", "core": "card"},
+    "margins": {"widened": "card, *, by", "widest": "card"},
+    "timing": {"moved": "card, name, *, to", "latest": "card, name", "taken": "card, turn, *, option",
+               "put_off": "card, turn"},
+    "holding": {"start": "steps", "advance": "steps, held, text", "finish": "steps, held"},
+    "comparing": {"compare": "first, second, *, most"},
+    "resting": {"rest": "steps, *, most_runs=4, most"},
+    "words": {"remains": "steps, word, *, most"},
+    "gains": {"excess": "first, second, catalog, *, letters, most",
+              "table_holds": "first, second, catalog, table, *, letters"},
+}
+
+CLASSES = {
+    "forms": {"Form": "constant"}, "cards": {"Card": ""}, "players": {"Setter": "card", "Breaker": "card"},
+    "lists": {"Steps": "steps"}, "catalogs": {"Catalog": "lengths"},
+}
+
+METHODS = {
+    ("forms", "Form"): {"value": "values"},
+    ("cards", "Card"): {"measure": "name, *, low, high", "turn": "name, *, options", "part": "name",
+                        "rule": "upper, lower, *, least, when=()", "back": "", "form": "name"},
+    ("players", "Setter"): {"__call__": "told"},
+    ("players", "Breaker"): {"__call__": "told"},
+    ("lists", "Steps"): {"__call__": "text"},
+    ("catalogs", "Catalog"): {"length": "text"},
+}
+
+IN_THE_CLASS = {
+    ("forms", "Form"): ["least", "most", "__add__", "__radd__", "__sub__", "__rsub__", "__mul__", "__rmul__",
+                        "__neg__", "__eq__", "__le__", "__ge__"],
+    ("cards", "Card"): ["acts", "steps", "rules", "__contains__"],
+    ("players", "Setter"): ["steps"],
+    ("players", "Breaker"): ["steps"],
+    ("lists", "Steps"): ["of", "alphabet", "__add__", "__mul__", "__rmul__", "__len__", "__iter__", "__eq__"],
+    ("catalogs", "Catalog"): ["letters", "__getitem__", "__iter__", "__contains__", "__add__", "__sub__", "__mul__",
+                              "__rmul__", "__eq__"],
+}
+
+
+def found(module, name):
+    return getattr(importlib.import_module("drawingoffice." + module), name)
+
+
+def arguments(action):
+    return str(inspect.signature(action))[1:-1]
+
+
+class Interface(unittest.TestCase):
+    def test_functions(self):
+        for module, functions in FUNCTIONS.items():
+            for name, expected in functions.items():
+                function = found(module, name)
+                self.assertEqual(arguments(function), expected, name)
+                self.assertEqual(function.__module__, "drawingoffice." + module)
+
+    def test_classes(self):
+        for module, classes in CLASSES.items():
+            for name, expected in classes.items():
+                self.assertEqual(arguments(found(module, name)), expected, name)
+                self.assertEqual(found(module, name).__module__, "drawingoffice." + module)
+
+    def test_methods_stand_in_the_class_itself(self):
+        for (module, name), methods in METHODS.items():
+            for method, expected in methods.items():
+                told = arguments(vars(found(module, name))[method])
+                self.assertEqual(told, ("self, " + expected).rstrip(", "), method)
+        for (module, name), methods in IN_THE_CLASS.items():
+            for method in methods:
+                self.assertIn(method, vars(found(module, name)))
+
+    def test_properties(self):
+        for place, names in [(("forms", "Form"), "least most"), (("cards", "Card"), "acts steps rules"),
+                             (("players", "Setter"), "steps"), (("players", "Breaker"), "steps"),
+                             (("lists", "Steps"), "alphabet"), (("catalogs", "Catalog"), "letters")]:
+            for name in names.split():
+                self.assertIsInstance(vars(found(*place))[name], property)
+
+    def test_one_player_is_not_the_other(self):
+        setter, breaker = found("players", "Setter"), found("players", "Breaker")
+        self.assertFalse(issubclass(setter, breaker) or issubclass(breaker, setter))
+
+    def test_keywords_are_not_taken_by_position(self):
+        card, widened = found("cards", "Card")(), found("margins", "widened")
+        for call in [lambda: found("players", "sure")(card, []), lambda: card.measure("m", 0, 1),
+                     lambda: card.turn("t", 2), lambda: card.rule("p", "q", 1), lambda: widened(card, 1)]:
+            self.assertRaises(TypeError, call)
+
+
+if __name__ == "__main__":
+    unittest.main()
