@@ -37,17 +37,17 @@ def excess(first, second, catalog, *, letters, most):
         return False
 
     found = walk(signs, _first_pair(first, second), pair_after, never, most=most)
-    number_of = {pair: number for number, pair in enumerate(found.rows)}
+    number_of = {pair: number for number, pair in enumerate(found.row_list)}
     moves = []
-    for pair in found.rows:
+    for pair in found.row_list:
         steps = [_step(first, second, catalog, pair, char) for char in signs]
         moves.append([(number_of[after], gain) for after, gain in steps])
-    ends = [_end_gain(first, second, catalog, pair) for pair in found.rows]
+    ends = [_end_gain(first, second, catalog, pair) for pair in found.row_list]
     worths, round_trip = raised_worths(ends, moves)
     if round_trip:
         turn = "".join([signs[choice] for _, choice in round_trip])
         return Excess(None, None, (found.texts[round_trip[0][0]], turn), [])
-    table = [(pair[0], pair[1], worth) for pair, worth in zip(found.rows, worths)]
+    table = [(pair[0], pair[1], worth) for pair, worth in zip(found.row_list, worths)]
     return Excess(worths[0], _least_text(signs, ends, moves, worths), None, table)
 
 

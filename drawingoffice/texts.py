@@ -1,5 +1,7 @@
 """Texts of characters: what several modules ask of them."""
 
+PER_CENT = 37
+
 
 def ascending_signs(text):
     """The characters of the text in ascending order, each once."""
@@ -14,3 +16,8 @@ def ending_that_begins(text, word):
         if word.startswith(ending):
             return ending
     return ""
+
+
+def is_text(text):
+    """True if the string consists of characters: signs without the blank and without the sign for per cent."""
+    return all(["!" <= char <= "~" and ord(char) != PER_CENT for char in text])

@@ -6,14 +6,14 @@ from drawingoffice.errors import TooManyRows
 class Walk:
     """What a search found.
 
-    `stop` is the text at which it stopped, or None if no text was left. `rows` are the rows that it kept, and
+    `stop` is the text at which it stopped, or None if no text was left. `row_list` are the rows that it kept, and
     `texts` the least texts with these rows, in ascending order.
     """
 
-    def __init__(self, stop, texts, rows):
+    def __init__(self, stop, texts, row_list):
         self.stop = stop
         self.texts = texts
-        self.rows = rows
+        self.row_list = row_list
 
 
 def walk(letters, first, after, stops, *, most):

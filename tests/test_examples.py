@@ -48,6 +48,24 @@ EXAMPLES = {
 >>> [one.greatest, one.text, one.loop, two.greatest]
 [3, 'a', None, None]
 """,
+    "changes": """
+>>> from drawingoffice.changes import Change
+>>> short = ("reach", "p", "frame", (5, ()))
+>>> long = ("reach", "p", "frame", (7, ()))
+>>> both = Change([short], [long]) + Change([long])
+>>> [both.lost, both.gained, both.barred]
+[[('reach', 'p', 'frame', (5, ()))], [], [('reach', 'p', 'frame', (7, ()))]]
+""",
+    "orders": """
+>>> from drawingoffice.changes import Change
+>>> from drawingoffice.orders import clash, orders_that_go
+>>> from drawingoffice.sheets import Sheet
+>>> short = ("reach", "p", "frame", (5, ()))
+>>> long = ("reach", "p", "frame", (7, ()))
+>>> changes = {"fix": Change([short], [long]), "old": Change([long])}
+>>> [list(orders_that_go(Sheet([short]), changes, ["old", "fix"])), clash(Sheet([short]), changes, ["old", "fix"])]
+[[['fix', 'old']], ('alone', 'old', ('reach', 'p', 'frame', (7, ())))]
+""",
 }
 
 

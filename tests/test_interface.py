@@ -19,11 +19,20 @@ FUNCTIONS = {
     "words": {"remains": "steps, word, *, most"},
     "gains": {"excess": "first, second, catalog, *, letters, most",
               "table_holds": "first, second, catalog, table, *, letters"},
+    "limits": {"is_limit": "value"},
+    "changes": {"change_of": "changes, steps"},
+    "orders": {name: "sheet, changes, names" for name in
+               "orders_that_go order_count first_order sheet_after_all always_before clash freest".split()},
+    "facts": {"opposites": "fact"},
+    "bearing": {"sheets_of": "store, drawings, changes"},
+    "binders": {"fits": "binder, store"},
 }
 
 CLASSES = {
     "forms": {"Form": "constant"}, "cards": {"Card": ""}, "players": {"Setter": "card", "Breaker": "card"},
-    "lists": {"Steps": "steps"}, "catalogs": {"Catalog": "lengths"},
+    "lists": {"Steps": "steps"}, "catalogs": {"Catalog": "lengths"}, "sheets": {"Sheet": "limits"},
+    "changes": {"Change": "lost=(), gained=(), *, kept=(), barred=()"},
+    "stores": {"Store": "contents, starts, moves"}, "binders": {"Binder": "drawings, changes, facts"},
 }
 
 METHODS = {
@@ -34,6 +43,8 @@ METHODS = {
     ("players", "Breaker"): {"__call__": "told"},
     ("lists", "Steps"): {"__call__": "text"},
     ("catalogs", "Catalog"): {"length": "text"},
+    ("changes", "Change"): {"__call__": "sheet"},
+    ("stores", "Store"): {"end": "run"},
 }
 
 IN_THE_CLASS = {
@@ -45,6 +56,17 @@ IN_THE_CLASS = {
     ("lists", "Steps"): ["of", "alphabet", "__add__", "__mul__", "__rmul__", "__len__", "__iter__", "__eq__"],
     ("catalogs", "Catalog"): ["letters", "__getitem__", "__iter__", "__contains__", "__add__", "__sub__", "__mul__",
                               "__rmul__", "__eq__"],
+    ("sheets", "Sheet"): ["__iter__", "__len__", "__contains__", "__or__", "__and__", "__sub__", "__le__", "__eq__"],
+    ("changes", "Change"): ["nowhere", "__contains__", "__add__", "__neg__", "__le__", "__eq__"],
+    ("stores", "Store"): ["__eq__"],
+    ("binders", "Binder"): ["__iter__", "__len__", "__add__"],
+}
+
+PROPERTIES = {
+    ("forms", "Form"): "least most", ("cards", "Card"): "acts steps rules", ("players", "Setter"): "steps",
+    ("players", "Breaker"): "steps", ("lists", "Steps"): "alphabet", ("catalogs", "Catalog"): "letters",
+    ("changes", "Change"): "lost gained kept barred touched is_void", ("stores", "Store"): "contents starts moves",
+    ("binders", "Binder"): "drawings changes facts store sheets first_runs",
 }
 
 
@@ -80,9 +102,7 @@ class Interface(unittest.TestCase):
                 self.assertIn(method, vars(found(module, name)))
 
     def test_properties(self):
-        for place, names in [(("forms", "Form"), "least most"), (("cards", "Card"), "acts steps rules"),
-                             (("players", "Setter"), "steps"), (("players", "Breaker"), "steps"),
-                             (("lists", "Steps"), "alphabet"), (("catalogs", "Catalog"), "letters")]:
+        for place, names in PROPERTIES.items():
             for name in names.split():
                 self.assertIsInstance(vars(found(*place))[name], property)
 

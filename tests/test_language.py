@@ -109,6 +109,16 @@ class Language(unittest.TestCase):
                 self.assertNotIn("%", node.value, name)
             self.assertNotIsInstance(node.value, (float, bytes), name)
 
+    def test_properties_methods_and_attributes_have_different_names(self):
+        properties, methods = set(), set()
+        for name, node in nodes(ast.FunctionDef):
+            is_property = any(isinstance(word, ast.Name) and word.id == "property" for word in node.decorator_list)
+            (properties if is_property else methods).add(node.name)
+        stored = {node.attr for name, node in nodes(ast.Attribute) if isinstance(node.ctx, ast.Store)}
+        own = {method.name for name, node in nodes(ast.ClassDef) for method in node.body
+               if isinstance(method, ast.FunctionDef)} & methods
+        self.assertEqual((properties & stored, properties & own, own & stored), (set(), set(), set()))
+
     def test_nothing_that_the_language_lacks(self):
         lacking = (ast.Global, ast.AsyncFunctionDef, ast.Await, ast.Div)
         self.assertEqual(nodes(*lacking), [])
@@ -124,7 +134,8 @@ class Language(unittest.TestCase):
         if isinstance(node, ast.ListComp):
             return self.is_plain(node.elt)
         if isinstance(node, ast.Call):
-            return isinstance(node.func, ast.Name) and node.func.id in ("len", "int", "str", "repr", "ord")
+            # A set is plain, for what has an order has an `==` of its own, too, and is in no set.
+            return isinstance(node.func, ast.Name) and node.func.id in ("len", "int", "str", "repr", "ord", "set")
         return isinstance(node, ast.Constant)
 
 
