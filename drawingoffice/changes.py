@@ -113,7 +113,10 @@ def first_wrong(change, sheet):
 
 def sheet_after(change, sheet):
     """What a change leaves of a sheet on which it goes."""
-    return (sheet - sheet_of(change.lost)) | sheet_of(change.gained)
+    lost, gained = change.lost, change.gained
+    if not lost and not gained:
+        return sheet
+    return sheet_of([limit for limit in sheet if limit not in lost] + gained)
 
 
 def change_of(changes, steps):

@@ -41,3 +41,8 @@ def first_unfit(drawings, changes, facts):
         else:
             high = middle
     return low
+
+
+def fit_with(binder, fact):
+    """Fold the facts of the binder with one more behind them and see whether the folded store fits."""
+    return fit_of(binder.drawings, binder.changes, [*binder.facts, fact])

@@ -121,7 +121,25 @@ def limits_behind(sheet, changes, steps):
 
 
 def sheets_by_hand(store, drawings, changes):
-    """The sets of limits of the contents by all runs that are long enough; None if the store does not bear them."""
+    """The sets of limits of the contents by all runs of any length; None if the store does not bear them."""
+    reached = [(store.starts[name], frozenset(drawings[name])) for name in drawings]
+    for content, limits in reached:
+        for source, name, target in store.moves:
+            for here, step, there in [(source, "+" + name, target), (target, "-" + name, source)]:
+                if here == content:
+                    left = limits_behind(limits, changes, [step])
+                    if left is None:
+                        return None
+                    if (there, frozenset(left)) not in reached:
+                        reached.append((there, frozenset(left)))
+    found = [{limits for content, limits in reached if content == number} for number in range(store.contents)]
+    if any(len(some) > 1 for some in found):
+        return None
+    return [set(*some) if some else None for some in found]
+
+
+def sheets_by_runs(store, drawings, changes):
+    """The same by trying all runs up to the length that is enough for every content and every move."""
     names = sorted({name for _, name, _ in store.moves})
     found = [None] * store.contents
     for run in all_runs(sorted(drawings), names, store.contents):
@@ -165,16 +183,16 @@ def fold_by_hand(starts, facts):
     ways = [(one, step, two) for one in places for two in places
             for step in {*one[1:], *two[1:], *map(turned, one[1:] + two[1:])}
             if two == one + (step,) or one == two + (turned(step),)]
-    merged = {(place, place) for place in places}
-    merged |= {pair for fact in facts if fact[0] == "alike" for pair in [fact[1:], fact[:0:-1]]}
+    class_of = {place: place for place in places}
+    due = [fact[1:] for fact in facts if fact[0] == "alike"]
     while True:
-        more = {(after, others) for before, step, after in ways for other, same, others in ways
-                if step == same and (before, other) in merged}
-        more |= {(one, four) for one, two in merged for three, four in merged if two == three}
-        if more <= merged:
+        for first, second in due:
+            # Both classes get the name of the second one.
+            class_of = {place: class_of[second] if top == class_of[first] else top for place, top in class_of.items()}
+        due = [(after, others) for before, step, after in ways for other, same, others in ways
+               if step == same and class_of[before] == class_of[other] and class_of[after] != class_of[others]]
+        if not due:
             break
-        merged |= more
-    class_of = {place: min(other for other in places if (place, other) in merged) for place in places}
     targets = {(class_of[one], step): class_of[two] for one, step, two in ways}
     order, runs = [], []
     for start in sorted(starts):

@@ -9,7 +9,7 @@ from drawingoffice.errors import CannotBear, UnknownStart
 from drawingoffice.sheets import Sheet
 from drawingoffice.stores import Store
 from small_cards import raised
-from small_offices import LOW, MID, ROOM, all_stores, sheets_by_hand
+from small_offices import LOW, MID, ROOM, all_stores, sheets_by_hand, sheets_by_runs
 
 CUT = Change([MID], [LOW])
 CHANGES = {"cut": CUT, "same": Change(), "bad": Change.nowhere()}
@@ -80,7 +80,8 @@ class Bearing(unittest.TestCase):
             for store, changes in itertools.product(stores, tables):
                 if not set(drawings) <= set(store.starts):
                     continue
-                expected = sheets_by_hand(store, drawings, changes)
+                expected = sheets_by_runs(store, drawings, changes)
+                self.assertEqual(sheets_by_hand(store, drawings, changes), expected)
                 outcomes.add(expected is None)
                 if expected is None:
                     self.assertEqual(raised(sheets_of, store, drawings, changes), (CannotBear, {}))

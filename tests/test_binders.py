@@ -9,7 +9,7 @@ from drawingoffice.sheets import Sheet
 from drawingoffice.stores import Store
 from small_cards import raised
 from small_offices import LOW, MID, ROOM, all_stores, fits_by_hand, fold_by_hand, holds_by_hand, random_facts
-from small_offices import sheets_by_hand
+from small_offices import sheets_by_hand, sheets_by_runs
 from test_stores import BAD_RUNS
 
 CUT = Change([MID], [LOW])
@@ -213,6 +213,9 @@ class Fits(unittest.TestCase):
             for store in stores:
                 expected = fits_by_hand(drawings, changes, facts, store)
                 self.assertIs(fits(binder, store), expected)
+                if set(drawings) <= set(store.starts):
+                    borne = sheets_by_runs(store, drawings, changes) is not None
+                    self.assertIs(expected, borne and all(holds_by_hand(fact, store) for fact in facts))
                 outcomes[expected] += 1
         self.assertGreater(min(outcomes.values()), 200)
 

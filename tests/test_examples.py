@@ -66,6 +66,26 @@ EXAMPLES = {
 >>> [list(orders_that_go(Sheet([short]), changes, ["old", "fix"])), clash(Sheet([short]), changes, ["old", "fix"])]
 [[['fix', 'old']], ('alone', 'old', ('reach', 'p', 'frame', (7, ())))]
 """,
+    "answers": """
+>>> from drawingoffice.answers import judge
+>>> from drawingoffice.binders import Binder
+>>> from drawingoffice.changes import Change
+>>> from drawingoffice.sheets import Sheet
+>>> short = ("reach", "p", "frame", (5, ()))
+>>> long = ("reach", "p", "frame", (7, ()))
+>>> changes = {"fix": Change([short], [long]), "old": Change([long])}
+>>> binder = Binder({"main": Sheet([short])}, changes, [("goes", ("main", "+fix"))])
+>>> [judge(binder, ("goes", ("main", "+fix", "+old"))), judge(binder, ("goes", ("main", "+old")))]
+['open', 'never']
+""",
+    "parting": """
+>>> from drawingoffice.parting import parting
+>>> from drawingoffice.rules import Rules
+>>> once = Rules(["release"], [[1], [1]], [(1, "release")])
+>>> every = Rules([], [[]], [])
+>>> [once <= every, parting(every, once), parting(once, every)]
+[True, ['release', 'release'], None]
+""",
 }
 
 

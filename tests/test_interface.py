@@ -26,6 +26,11 @@ FUNCTIONS = {
     "facts": {"opposites": "fact"},
     "bearing": {"sheets_of": "store, drawings, changes"},
     "binders": {"fits": "binder, store"},
+    "answers": {"judge": "binder, fact", "witness": "binder, fact, *, holds", "stops": "binder, run"},
+    "papers": {"paper_flaw": "paper", "papers": "binder, fact", "contradicts": "binder, paper"},
+    "leasts": {"least": "binder"},
+    "meetings": {"meeting": "binder, run, names", "parted_orders": "binder, run, names"},
+    "parting": {"parting": "a, b", "smallest": "rules"},
 }
 
 CLASSES = {
@@ -33,6 +38,8 @@ CLASSES = {
     "lists": {"Steps": "steps"}, "catalogs": {"Catalog": "lengths"}, "sheets": {"Sheet": "limits"},
     "changes": {"Change": "lost=(), gained=(), *, kept=(), barred=()"},
     "stores": {"Store": "contents, starts, moves"}, "binders": {"Binder": "drawings, changes, facts"},
+    "papers": {"Paper": "facts, claim, rows, traces"}, "rules": {"Rules": "events, moves, barred"},
+    "routes": {"Route": "steps"}, "stocks": {"Stock": "catalog, steps, *, most_runs=4, most=1000"},
 }
 
 METHODS = {
@@ -45,6 +52,9 @@ METHODS = {
     ("catalogs", "Catalog"): {"length": "text"},
     ("changes", "Change"): {"__call__": "sheet"},
     ("stores", "Store"): {"end": "run"},
+    ("rules", "Rules"): {"next_state": "state, event", "__call__": "history"},
+    ("routes", "Route"): {"widened": "*, by", "moved": "name, *, to", "late_rows": "", "late_run": "row"},
+    ("stocks", "Stock"): {"length": "stack"},
 }
 
 IN_THE_CLASS = {
@@ -60,6 +70,7 @@ IN_THE_CLASS = {
     ("changes", "Change"): ["nowhere", "__contains__", "__add__", "__neg__", "__le__", "__eq__"],
     ("stores", "Store"): ["__eq__"],
     ("binders", "Binder"): ["__iter__", "__len__", "__add__"],
+    ("rules", "Rules"): ["__len__", "__and__", "__or__", "__le__", "__lt__", "__ge__", "__gt__", "__eq__"],
 }
 
 PROPERTIES = {
@@ -67,6 +78,8 @@ PROPERTIES = {
     ("players", "Breaker"): "steps", ("lists", "Steps"): "alphabet", ("catalogs", "Catalog"): "letters",
     ("changes", "Change"): "lost gained kept barred touched is_void", ("stores", "Store"): "contents starts moves",
     ("binders", "Binder"): "drawings changes facts store sheets first_runs",
+    ("papers", "Paper"): "facts claim rows traces", ("rules", "Rules"): "events moves barred",
+    ("routes", "Route"): "steps", ("stocks", "Stock"): "catalog steps resting",
 }
 
 

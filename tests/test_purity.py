@@ -113,7 +113,7 @@ class Purity(unittest.TestCase):
                 if isinstance(node, ast.Call):
                     self.assertNotIsInstance(node.func, ast.Subscript, function.name)
                     if isinstance(node.func, ast.Name):
-                        self.assertIn(node.func.id, set(known) | classes | builtin, function.name)
+                        self.assertTrue(node.func.id in set(known) | classes | builtin, (function.name, node.func.id))
 
 
 if __name__ == "__main__":
