@@ -31,6 +31,12 @@ FUNCTIONS = {
     "leasts": {"least": "binder"},
     "meetings": {"meeting": "binder, run, names", "parted_orders": "binder, run, names"},
     "parting": {"parting": "a, b", "smallest": "rules"},
+    "releases": {"release_card": "office, run"},
+    "joints": {"joined": "office, start, *, store=None, checked=True"},
+    "replays": {"replay": "program, joint, name, choices, *, limit=100"},
+    "tables": {"table": "program, joint", "goes_wrong": "program, joint, name"},
+    "closed": {"first_open": "program, joint, facts", "first_unfounded": "program, joint, facts"},
+    "guides": {"steps_to_wrong": "program, joint, name"},
 }
 
 CLASSES = {
@@ -40,6 +46,8 @@ CLASSES = {
     "stores": {"Store": "contents, starts, moves"}, "binders": {"Binder": "drawings, changes, facts"},
     "papers": {"Paper": "facts, claim, rows, traces"}, "rules": {"Rules": "events, moves, barred"},
     "routes": {"Route": "steps"}, "stocks": {"Stock": "catalog, steps, *, most_runs=4, most=1000"},
+    "programs": {"Program": "definitions"},
+    "offices": {"Office": "*, route, stock, binder, rules, program, waived=()"},
 }
 
 METHODS = {
@@ -55,6 +63,9 @@ METHODS = {
     ("rules", "Rules"): {"next_state": "state, event", "__call__": "history"},
     ("routes", "Route"): {"widened": "*, by", "moved": "name, *, to", "late_rows": "", "late_run": "row"},
     ("stocks", "Stock"): {"length": "stack"},
+    ("programs", "Program"): {"extended": "definitions"},
+    ("offices", "Office"): {"replaced": "*, route=None, stock=None, binder=None, rules=None, program=None, waived=None"},
+    ("joints", "Joint"): {"next_state": "state, event", "judged": "pairs"},
 }
 
 IN_THE_CLASS = {
@@ -71,6 +82,7 @@ IN_THE_CLASS = {
     ("stores", "Store"): ["__eq__"],
     ("binders", "Binder"): ["__iter__", "__len__", "__add__"],
     ("rules", "Rules"): ["__len__", "__and__", "__or__", "__le__", "__lt__", "__ge__", "__gt__", "__eq__"],
+    ("programs", "Program"): ["names", "__getitem__", "__contains__", "__iter__"],
 }
 
 PROPERTIES = {
@@ -80,6 +92,8 @@ PROPERTIES = {
     ("binders", "Binder"): "drawings changes facts store sheets first_runs",
     ("papers", "Paper"): "facts claim rows traces", ("rules", "Rules"): "events moves barred",
     ("routes", "Route"): "steps", ("stocks", "Stock"): "catalog steps resting",
+    ("programs", "Program"): "names", ("joints", "Joint"): "pairs events wrong",
+    ("offices", "Office"): "route stock binder rules program waived",
 }
 
 
