@@ -150,10 +150,10 @@ def possible_ways(joint, count):
                    if not harmless_by_hand(joint, q)]
 
 
-def all_needs(joint, counts):
-    """All needs that a definition with parameters of these counts may have, those with fewer pairs first."""
+def all_needs(joint, counts, most=99):
+    """All needs, of at most so many pairs, that a definition with parameters of these counts may have."""
     pairs = [(index, way) for index, count in enumerate(counts) for way in possible_ways(joint, count)]
-    for size in range(len(pairs) + 1):
+    for size in range(min(most, len(pairs)) + 1):
         for some in itertools.combinations(sorted(pairs), size):
             if not any(len(way) == 3 and (index, way[:1]) in some for index, way in some):
                 yield some

@@ -17,9 +17,9 @@ PROGRAM = Program([APPLY, ("step", X, ("do", "+a", call("x"))),
                    ("main", (), call("apply", ("use", "step"), make("", SIGN)))])
 
 
-def all_facts(program, joint):
+def all_facts(program, joint, most=99):
     return [(name, state, needs) for name, params, _ in program for state in range(len(joint.pairs))
-            for needs in all_needs(joint, [count for _, count in params])]
+            for needs in all_needs(joint, [count for _, count in params], most)]
 
 
 def open_by_hand(program, joint, facts):

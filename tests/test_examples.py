@@ -86,6 +86,29 @@ EXAMPLES = {
 >>> [once <= every, parting(every, once), parting(once, every)]
 [True, ['release', 'release'], None]
 """,
+    "clearing": """
+>>> from drawingoffice.binders import Binder
+>>> from drawingoffice.catalogs import Catalog
+>>> from drawingoffice.changes import Change
+>>> from drawingoffice.clearing import refusal, verdict
+>>> from drawingoffice.lists import Steps
+>>> from drawingoffice.offices import Office
+>>> from drawingoffice.programs import Program
+>>> from drawingoffice.routes import Route
+>>> from drawingoffice.rules import Rules
+>>> from drawingoffice.sheets import Sheet
+>>> from drawingoffice.stocks import Stock
+>>> room = ("room", "p", "frame", "aa", (0, ()))
+>>> changes = {"cut": Change([("reach", "p", "frame", (5, ()))], [("reach", "p", "frame", (3, ()))])}
+>>> binder = Binder({"main": Sheet([room, ("reach", "p", "frame", (5, ()))])}, changes, [("goes", ("main", "+cut"))])
+>>> release = ("do", "release", ("stop",))
+>>> program = Program([("main", (), release), ("late", (), ("do", "+cut", release))])
+>>> stock = Stock(Catalog({"a": 2}), Steps([]))
+>>> office = Office(route=Route([("part", "p")]), stock=stock, binder=binder, rules=Rules([], [[]], []), program=program)
+>>> told = refusal(office, "late", "main")
+>>> [verdict(office, "main", "main"), verdict(office, "late", "main"), told.run, told.kind]
+['cleared', 'doomed', ('main', '+cut'), 'limit']
+""",
 }
 
 

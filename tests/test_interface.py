@@ -37,6 +37,17 @@ FUNCTIONS = {
     "tables": {"table": "program, joint", "goes_wrong": "program, joint, name"},
     "closed": {"first_open": "program, joint, facts", "first_unfounded": "program, joint, facts"},
     "guides": {"steps_to_wrong": "program, joint, name"},
+    "likeness": {name: "program, joint, first, second" for name in ["alike", "part"]},
+    "clearing": {name: "office, name, start" for name in
+                 ["cleared", "wrong_events", "releasable", "verdict", "refusal"]},
+    "clearances": {"clearance": "office, name, start", "clearance_holds": "office, name, start, facts"},
+    "merging": {"merge_definitions": "names"},
+    "reserves": {"widest_release": "office, name, start", "latest_release": "office, name, start, *, step",
+                 "fewest_waivers": "office, name, start"},
+    "exchange": {"eased": "office, *, by", "easing": "first, second, *, most",
+                 "parting_office": "first, second, *, by, most"},
+    "writing": {"write_" + name: name for name in ["limit", "fact", "binder", "program"]},
+    "parsing": {"read_" + name: "text" for name in ["limit", "fact", "binder", "program"]},
 }
 
 CLASSES = {
@@ -48,6 +59,7 @@ CLASSES = {
     "routes": {"Route": "steps"}, "stocks": {"Stock": "catalog, steps, *, most_runs=4, most=1000"},
     "programs": {"Program": "definitions"},
     "offices": {"Office": "*, route, stock, binder, rules, program, waived=()"},
+    "desks": {"Desk": "office", "Supposing": "desk, *, facts=(), waived=(), rules=None"},
 }
 
 METHODS = {
@@ -66,6 +78,8 @@ METHODS = {
     ("programs", "Program"): {"extended": "definitions"},
     ("offices", "Office"): {"replaced": "*, route=None, stock=None, binder=None, rules=None, program=None, waived=None"},
     ("joints", "Joint"): {"next_state": "state, event", "judged": "pairs"},
+    ("desks", "Desk"): {"see": "fact", "waive": "limit", "bind": "rules", "teach": "definitions",
+                        "ask": "name, start, *, facts=(), waived=(), rules=None"},
 }
 
 IN_THE_CLASS = {
@@ -83,6 +97,7 @@ IN_THE_CLASS = {
     ("binders", "Binder"): ["__iter__", "__len__", "__add__"],
     ("rules", "Rules"): ["__len__", "__and__", "__or__", "__le__", "__lt__", "__ge__", "__gt__", "__eq__"],
     ("programs", "Program"): ["names", "__getitem__", "__contains__", "__iter__"],
+    ("desks", "Supposing"): ["__enter__", "__exit__"],
 }
 
 PROPERTIES = {
@@ -93,7 +108,7 @@ PROPERTIES = {
     ("papers", "Paper"): "facts claim rows traces", ("rules", "Rules"): "events moves barred",
     ("routes", "Route"): "steps", ("stocks", "Stock"): "catalog steps resting",
     ("programs", "Program"): "names", ("joints", "Joint"): "pairs events wrong",
-    ("offices", "Office"): "route stock binder rules program waived",
+    ("offices", "Office"): "route stock binder rules program waived", ("desks", "Desk"): "office",
 }
 
 
