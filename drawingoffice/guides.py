@@ -61,7 +61,7 @@ class Guide:
         """Enter the closure that the called name stands for now."""
         _, atom, used = reason
         closure = self._backing_of((atom,))
-        around = dict(closure.around)
+        around = {other: closure.around[other] for other in closure.around}
         for (index, way), backing in used:
             around[(closure.first + index, way)] = self._backing_of(backing)
         self._backings = around

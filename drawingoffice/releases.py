@@ -22,7 +22,8 @@ class Shop:
         self._rows = office.route.late_rows()
         self._late_runs = [office.route.late_run(row) for row in self._rows]
         self._waived = {limit: True for limit in office.waived}
-        self._is_right = {}
+        # What is known of the releases with the same final sheets.
+        self._is_sure = {}
 
     def failing_row(self, content):
         """The first late row whose run does not go from the content, or None."""
@@ -33,7 +34,7 @@ class Shop:
 
     def asked_rules(self, content):
         """The rules of the card of the release, as pairs of a limit and an act, if all late runs go."""
-        sheets = [self._sheets[self._end(content, steps)] for steps in self._late_runs]
+        sheets = self._final_sheets(content)
         lates = [step[1] for step in self._steps if step[0] == "late"]
         asked = []
         for limit in ascending([limit for sheet in sheets for limit in sheet if limit not in self._waived]):
@@ -55,9 +56,16 @@ class Shop:
 
     def is_right(self, content):
         """True if every late run goes from the content and the card is sure."""
-        if content not in self._is_right:
-            self._is_right[content] = self.failing_row(content) is None and sure(self.card_at(content))
-        return self._is_right[content]
+        if self.failing_row(content) is not None:
+            return False
+        key = tuple([tuple(sheet) for sheet in self._final_sheets(content)])
+        if key not in self._is_sure:
+            self._is_sure[key] = sure(self.card_at(content))
+        return self._is_sure[key]
+
+    def _final_sheets(self, content):
+        """The final sheets of the late rows, if all late runs go."""
+        return [self._sheets[self._end(content, steps)] for steps in self._late_runs]
 
     def _end(self, content, steps):
         """The content to which the steps lead, or None."""
