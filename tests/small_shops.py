@@ -60,7 +60,7 @@ class Without(Writer):
 
     def body(self, scope, depth):
         if self.chance.random() < 0.15:
-            return ("do", "release", super().body(scope, depth - 1)) if depth > 0 else ("do", "release", ("stop",))
+            return ("do", "release", self.body(scope, depth - 1) if depth > 0 else ("stop",))
         told = super().body(scope, depth)
         return self.body(scope, depth) if told[0] == "when" else told
 
