@@ -16,7 +16,8 @@ class Hazards:
         self._is_unsafe = {state: True for state, _ in goals}
         due = list(self._is_unsafe)
         while due:
-            for source in sources[due.pop()]:
+            here = due.pop()
+            for source in sources[here]:
                 if source not in self._is_unsafe:
                     self._is_unsafe[source] = True
                     due.append(source)
@@ -31,11 +32,12 @@ class Hazards:
             due = [state]
             seen = {state: True}
             while due:
-                for target in self._targets[due.pop()]:
+                here = due.pop()
+                for target in self._targets[here]:
                     if target not in seen:
                         seen[target] = True
                         due.append(target)
-            self._from[state] = sorted([int(here) for here in seen if here in self._is_unsafe])
+            self._from[state] = sorted([int(other) for other in seen if other in self._is_unsafe])
         return list(self._from[state])
 
 
